@@ -148,20 +148,32 @@ func Ratio(x int64, num int64, den int64) (int64, bool) {
 }
 
 func ParseLen(s string) (int64, bool) {
+	x, _, ok := parseLen(s)
+	return x, ok
+}
+
+// parseLen tells, too, whether the text has the form of a length, for one that is too large has it.
+func parseLen(s string) (x int64, form, ok bool) {
 	negative, rest := takeSign(s)
-	digits, scale, name, ok := takeDecimal(rest)
-	if !ok {
-		return 0, false
+	digits, scale, name, isNumber := takeDecimal(rest)
+	u, isUnit := unitNamed(name)
+	if !isNumber || !isUnit {
+		return 0, false, false
 	}
 	if negative {
 		digits = -digits
 	}
+	x, ok = Ratio(digits, u.num, scale*u.den)
+	return x, true, ok
+}
+
+func unitNamed(name string) (unit, bool) {
 	for _, u := range units {
 		if u.name == name {
-			return Ratio(digits, u.num, scale*u.den)
+			return u, true
 		}
 	}
-	return 0, false
+	return unit{}, false
 }
 
 func takeSign(s string) (negative bool, rest string) {
