@@ -11,10 +11,11 @@ import (
 	"loop.example/g00014/impl"
 )
 
-// plain tells chapter 4 plainly: a list, what is left, and the first code, with which nothing more is done.
+// plain tells chapter 4 plainly: a list and what more comes behind it, what is left, and the first code, with which nothing more is done.
 type plain struct {
 	level impl.Level
 	ts    []impl.Token
+	more  func() (impl.Token, bool)
 	left  int64
 	code  int64
 }
@@ -25,8 +26,22 @@ func (p *plain) fail(code int64) {
 	}
 }
 
+// pull puts one more token behind the list, if one comes.
+func (p *plain) pull() bool {
+	if p.code != 0 || p.more == nil {
+		return false
+	}
+	t, ok := p.more()
+	if ok {
+		p.ts = append(slices.Clone(p.ts), t)
+	}
+	return ok
+}
+
+func (p *plain) has() bool { return p.code == 0 && (len(p.ts) > 0 || p.pull()) }
+
 func (p *plain) take() impl.Token {
-	if len(p.ts) == 0 {
+	if !p.has() {
 		p.fail(impl.ExpEnd)
 	}
 	if p.code != 0 {
@@ -67,7 +82,7 @@ const ifs = " iftrue iffalse ifnum iflen ifodd ifsame ifcase "
 func oneOf(words, word string) bool { return word != "" && strings.Contains(words, " "+word+" ") }
 
 func (p *plain) canExpand() bool {
-	return p.code == 0 && len(p.ts) > 0 && (p.mean(p.ts[0]).Kind == 3 || oneOf(expandables, p.called(p.ts[0])))
+	return p.has() && (p.mean(p.ts[0]).Kind == 3 || oneOf(expandables, p.called(p.ts[0])))
 }
 
 func (p *plain) settle() {
@@ -79,7 +94,7 @@ func (p *plain) settle() {
 // next is the token that comes behind what can be expanded; a name of no token when there is none.
 func (p *plain) next() impl.Token {
 	p.settle()
-	if p.code != 0 || len(p.ts) == 0 {
+	if !p.has() {
 		return impl.Token{}
 	}
 	return p.ts[0]
@@ -105,7 +120,7 @@ func (p *plain) step() {
 	switch word := p.called(t); word {
 	case "expandafter":
 		held := p.take()
-		if len(p.ts) == 0 {
+		if !p.has() {
 			p.fail(impl.ExpEnd)
 		}
 		if p.canExpand() {
@@ -138,6 +153,9 @@ func (p *plain) step() {
 
 func (p *plain) callMacro(m impl.Macro) {
 	got := matched(m, p.ts)
+	for got.Code == impl.ExpEnd && p.pull() {
+		got = matched(m, p.ts)
+	}
 	p.fail(got.Code)
 	body, ok := bodyWith(m, got.Args)
 	if !ok {
@@ -319,6 +337,9 @@ func (p *plain) lengthOrShare(shares bool) impl.Glue {
 		return impl.Glue{Plus: p.level.Lens[p.place()]}
 	}
 	digits := p.run(tenDigits + ".")
+	if !strings.ContainsAny(digits, tenDigits) && p.has() {
+		p.fail(impl.ExpNumber)
+	}
 	if shares && p.word("fil") {
 		order := int64(1)
 		for order < 3 && p.word("l") {
@@ -407,7 +428,7 @@ func (p *plain) all() []impl.Token {
 	var out []impl.Token
 	for {
 		p.settle()
-		if p.code != 0 || len(p.ts) == 0 {
+		if !p.has() {
 			return out
 		}
 		t := p.take()
