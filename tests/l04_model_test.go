@@ -337,7 +337,7 @@ func (p *plain) lengthOrShare(shares bool) impl.Glue {
 		return impl.Glue{Plus: p.level.Lens[p.place()]}
 	}
 	digits := p.run(tenDigits + ".")
-	if !strings.ContainsAny(digits, tenDigits) && p.has() {
+	if digits == "" && p.has() {
 		p.fail(impl.ExpNumber)
 	}
 	if shares && p.word("fil") {
@@ -693,7 +693,7 @@ func TestExpansionAtRandom(t *testing.T) {
 func TestReadingAtRandom(t *testing.T) {
 	r := rand.New(rand.NewSource(12))
 	e := expandEnv()
-	parts := []string{"-", " ", "+", "1", "2.5", ".5", "12", "pt", "pt", "mm", "in", "pc", "sp", "fil", "fill", "filll", "l", " plus", " plus ", "plus", " minus", "minus ", "pl", " m", "\\len 2 ", "\\glue 3", "\\count 1 ", "\\digits", "\\unit", "\\words", "\\none", "\\bare", "`a", "x", "30000", "\\iftrue", "\\fi"}
+	parts := []string{"-", " ", "+", "1", "2.5", ".5", ".", "12", "pt", "pt", "mm", "in", "pc", "sp", "fil", "fill", "filll", "l", " plus", " plus ", "plus", " minus", "minus ", "pl", " m", "\\len 2 ", "\\glue 3", "\\count 1 ", "\\digits", "\\unit", "\\words", "\\none", "\\bare", "`a", "x", "30000", "\\iftrue", "\\fi"}
 	read := 0
 	for range 25000 {
 		text := "1pt"

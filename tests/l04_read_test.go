@@ -155,14 +155,14 @@ func TestReadCodes(t *testing.T) {
 		{impl.ExpName, []string{"\\the x", "1\\the\\def", "\\csname\\relax"}},
 	})
 	check("length", impl.ReadLen, []codeCase{
-		{impl.ExpEnd, []string{"", "-", "1", "1.", ".", "1.5", "1p", "-.5m", "\\len", "\\len-", "\\len\\count", "1pt\\number"}},
-		{impl.ExpNumber, []string{"p", "-x", ".x", "..", "p\\again", ".\\unit\\again", "pt", ".pt", "1em", "1 pt", "1p t", "1.2.3pt", "1..5pt", "1p\\relax", "1\\relax", "1{pt}", "x1pt", "\\count 1 pt", "\\glue 1", "0000000000000001pt", "1.000000000000000pt", "1PT", "1fil", "1pp", "`a pt", "\\relax"}},
+		{impl.ExpEnd, []string{"", "-", "1", "1.", ".", "1.5", "1p", "-.5m", ".x", "-.p", "..", ".\\none p\\none", "\\len", "\\len-", "\\len\\count", "1pt\\number"}},
+		{impl.ExpNumber, []string{"p", "-x", ".\\relax", ".p\\relax", ".{", ". pt", "..pt", "...", "p\\again", ".\\unit\\again", "pt", ".pt", "1em", "1 pt", "1p t", "1.2.3pt", "1..5pt", "1p\\relax", "1\\relax", "1{pt}", "x1pt", "\\count 1 pt", "\\glue 1", "0000000000000001pt", "1.000000000000000pt", "1PT", "1fil", "1pp", "`a pt", "\\relax"}},
 		{impl.ExpRange, []string{"16384pt", "-16384pt", "1073741824sp", "-1073741824sp", "1366pc", "226.71in", "999999999999999pt", "999999999999999sp", "\\len 32", "\\len-1", "\\len\\count 0"}},
-		{impl.ExpBudget, []string{"\\again", "1\\again", "1p\\again", "1pt\\again", "\\len\\again"}},
+		{impl.ExpBudget, []string{"\\again", "1\\again", ".\\again", ".p\\again", "1p\\again", "1pt\\again", "\\len\\again"}},
 	})
 	check("glue", impl.ReadGlue, []codeCase{
-		{impl.ExpEnd, []string{"", "-", "1", "1p", "\\glue", "\\glue-", "\\len", "1pt plus", "1pt plus -", "1pt plus 2", "1pt plus 2p", "1pt plus 2f", "1pt plus\\len", "1pt minus", "1pt minus 2.", "1pt plus 2pt minus", "1pt plus 2fil minus 3m"}},
-		{impl.ExpNumber, []string{"x", "xx", "1pt plus x", "1pt plus f\\again", "1pt minus.f", "1fil", "1 pt", "\\count 1", "1pt plus xx", "1pt plus fil", "1pt plus .fil", "1pt plus 2fi", "1pt plus 2fix", "1pt plus 2 fil", "1pt plus 2FIL", "1pt plus\\glue 3", "1pt minus{1pt}", "1pt plus 0000000000000001fil", "1pt plus 2pt minus 2x.", "1pt plus 1.2.3fil"}},
+		{impl.ExpEnd, []string{"", "-", "1", "1p", "\\glue", "\\glue-", "\\len", "1pt plus", "1pt plus -", "1pt plus 2", "1pt plus 2p", "1pt plus 2f", "1pt plus .", "1pt plus .p", "1pt plus .f", "1pt minus.f", "1pt plus .5fil minus .p", "1pt plus\\len", "1pt minus", "1pt minus 2.", "1pt plus 2pt minus", "1pt plus 2fil minus 3m"}},
+		{impl.ExpNumber, []string{"x", "xx", "1pt plus x", "1pt plus f\\again", "1pt minus.fi", "1pt minus .pt", "1pt minus..p", ".fil", "1fil", "1 pt", "\\count 1", "1pt plus xx", "1pt plus fil", "1pt plus .fil", "1pt plus 2fi", "1pt plus 2fix", "1pt plus 2 fil", "1pt plus 2FIL", "1pt plus\\glue 3", "1pt minus{1pt}", "1pt plus 0000000000000001fil", "1pt plus 2pt minus 2x.", "1pt plus 1.2.3fil"}},
 		{impl.ExpRange, []string{"16384pt", "1pt plus 16384pt", "1pt plus 16384fil", "1pt plus -16384filll", "1pt minus 16384fill", "\\glue 32", "\\glue -1", "1pt minus\\len 32 "}},
 		{impl.ExpBudget, []string{"\\again", "1pt\\again", "1pt plus\\again", "1pt plus 1fil\\again", "1pt pl\\again", "1pt plus 1f\\again", "1pt plus 1pt minus\\again", "\\glue\\again"}},
 	})
