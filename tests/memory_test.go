@@ -36,9 +36,9 @@ func listSpans(v reflect.Value, out *[]span) {
 	eachField(v, func(f reflect.Value) { listSpans(f, out) })
 }
 
-// textSpans are the pieces in which the texts of v lie.
+// textSpans are the pieces in which the texts of v lie. (Those of one byte lie in a table that Go has for all of them.)
 func textSpans(v reflect.Value, out *[]span) {
-	if v.Kind() == reflect.String && v.Len() > 0 {
+	if v.Kind() == reflect.String && v.Len() > 1 {
 		from := uintptr(unsafe.Pointer(unsafe.StringData(v.String())))
 		*out = append(*out, span{from, from + uintptr(v.Len()), v.String()})
 	}
