@@ -378,51 +378,52 @@ func shareOut(gs []Glue, width, target int64) ([]int64, Setting) {
 		lens[i] = g.Size
 		want -= g.Size
 	}
-	if want > 0 {
-		return lens, stretch(gs, lens, want)
+	set := settle(want, totals(gs, plusOf), totals(gs, minusOf))
+	if set.Have <= 0 {
+		return lens, set
 	}
-	if want < 0 {
-		return lens, shrink(gs, lens, -want)
+	part := plusOf
+	if set.Sign < 0 {
+		part = minusOf
 	}
-	return lens, Setting{}
+	given := set
+	given.Want -= set.Over
+	for i, p := range portions(gs, part, given) {
+		lens[i] += set.Sign * p
+	}
+	return lens, set
 }
 
-// stretch makes the lens, which are the sizes of gs, longer by want in all.
-func stretch(gs []Glue, lens []int64, want int64) Setting {
-	order, have := highest(totals(gs, plusOf))
+// settle is how glues with these totals are set when they have to become longer by want in all, or shorter if it is below 0.
+func settle(want int64, plus, minus [MaxOrder + 1]int64) Setting {
+	if want > 0 {
+		return stretch(want, plus)
+	}
+	if want < 0 {
+		return shrink(-want, minus)
+	}
+	return Setting{}
+}
+
+func stretch(want int64, plus [MaxOrder + 1]int64) Setting {
+	order, have := highest(plus)
 	set := Setting{Sign: 1, Order: order, Want: want, Have: have}
+	set.Bad = boundBad(set)
 	if have <= 0 {
 		set.Bad = MaxBad
-		return set
 	}
-	for i, p := range portions(gs, plusOf, set) {
-		lens[i] += p
-	}
-	set.Bad = boundBad(set)
 	return set
 }
 
-// shrink makes the lens, which are the sizes of gs, shorter by want in all, or by what they can give.
-func shrink(gs []Glue, lens []int64, want int64) Setting {
-	order, have := highest(totals(gs, minusOf))
+func shrink(want int64, minus [MaxOrder + 1]int64) Setting {
+	order, have := highest(minus)
 	set := Setting{Sign: -1, Order: order, Want: want, Have: have}
-	if have <= 0 {
-		set.Over = want
+	if have <= 0 || order == 0 && have < want {
+		set.Over = want - max(have, 0)
 		set.Bad = Overfull
 		return set
 	}
-	given := set
-	if order == 0 && have < want {
-		given.Want = have
-		set.Over = want - have
-	}
-	for i, p := range portions(gs, minusOf, given) {
-		lens[i] -= p
-	}
 	set.Bad = boundBad(set)
-	if set.Over > 0 {
-		set.Bad = Overfull
-	}
 	return set
 }
 
