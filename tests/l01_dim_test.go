@@ -184,6 +184,7 @@ func checkShown(t *testing.T, x int64) {
 }
 
 func TestShownLengthsAreReadAgain(t *testing.T) {
+	t.Parallel()
 	for x := int64(-66000); x <= 66000; x++ {
 		checkShown(t, x)
 	}

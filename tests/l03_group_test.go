@@ -438,6 +438,7 @@ func randomSet(r *rand.Rand) impl.Set {
 }
 
 func TestGroupsAndSetsAtRandom(t *testing.T) {
+	t.Parallel()
 	r := rand.New(rand.NewSource(6))
 	for range 60 {
 		e := full(r.Intn(4), r.Intn(4))

@@ -253,6 +253,7 @@ func TestExpansionInTheDepth(t *testing.T) {
 }
 
 func TestMoreBudgetChangesNothingButWhatIsLeft(t *testing.T) {
+	t.Parallel()
 	r := rand.New(rand.NewSource(16))
 	e := expandEnv()
 	for range 4000 {
@@ -287,6 +288,7 @@ func callText(r *rand.Rand) string {
 
 // A call is what its filled body is, with one more of the budget spent: in front of all, and behind what stays as it is.
 func TestACallMeansWhatItsFilledBodyMeans(t *testing.T) {
+	t.Parallel()
 	r := rand.New(rand.NewSource(17))
 	e := expandEnv()
 	matchedOnce := 0

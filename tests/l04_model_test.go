@@ -672,6 +672,7 @@ func randomSnippets(r *rand.Rand, most int) []impl.Token {
 }
 
 func TestExpansionAtRandom(t *testing.T) {
+	t.Parallel()
 	r := rand.New(rand.NewSource(11))
 	e := expandEnv()
 	var seen [4][impl.ExpArgs]int
@@ -691,6 +692,7 @@ func TestExpansionAtRandom(t *testing.T) {
 }
 
 func TestReadingAtRandom(t *testing.T) {
+	t.Parallel()
 	r := rand.New(rand.NewSource(12))
 	e := expandEnv()
 	parts := []string{"-", " ", "+", "1", "2.5", ".5", ".", "12", "pt", "pt", "mm", "in", "pc", "sp", "fil", "fill", "filll", "l", " plus", " plus ", "plus", " minus", "minus ", "pl", " m", "\\len 2 ", "\\glue 3", "\\count 1 ", "\\digits", "\\unit", "\\words", "\\none", "\\bare", "`a", "x", "30000", "\\iftrue", "\\fi"}

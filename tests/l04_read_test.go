@@ -196,6 +196,7 @@ func checkReadAgain(t *testing.T, read reading, text string, taken bool, n int64
 }
 
 func TestWhatIsShownIsReadAgain(t *testing.T) {
+	t.Parallel()
 	r := rand.New(rand.NewSource(14))
 	lens := []int64{0, 1, -1, 32768, 65535, 65536, 98304, impl.MaxLen, -impl.MaxLen, impl.MaxLen - 1}
 	numbers := []int64{0, 1, -1, 9, 10, -10, impl.MaxCount, -impl.MaxCount, impl.MaxCount - 1}

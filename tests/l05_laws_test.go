@@ -33,6 +33,7 @@ func checkParts(t *testing.T, e impl.Env, a, b string, budget int64) bool {
 }
 
 func TestATextInTwoPartsIsTheFirstAndThenTheSecond(t *testing.T) {
+	t.Parallel()
 	r := rand.New(rand.NewSource(23))
 	e := digestEnv()
 	parted, good := 0, 0
@@ -52,6 +53,7 @@ func TestATextInTwoPartsIsTheFirstAndThenTheSecond(t *testing.T) {
 
 // What one part leaves to the next: names, registers, categories, a font, the half of a condition.
 func TestPartsThatHangOnEachOther(t *testing.T) {
+	t.Parallel()
 	e := digestEnv()
 	firsts := []string{"", "a b", "\n\n", "\\count 1=5", "\\def\\q#1{<#1>}", "{\\global\\len 1=1pt}", "\\cat 64=1", "\\font 3", "\\iftrue a", "\\nono#}", "\\message{m}", "\\let\\q=\\pair", "\\hbox to 1pt{x}", "\\toks 4={x\\par}", "%", "\x7f", "\\glue 3=1pt", "\\let\\par\\indent"}
 	seconds := []string{"", " a", "\n", "\n\n", "\\q a", "\\q{b}{c}", "@}", "@", "b\\else c\\fi", "\\advance\\count 1 by 2", "\\number\\count 1", "\\mark{\\the\\count 1}", "}", "{", "\\kern\\len 1", "\\vskip\\glue 3", "\\the\\toks 4", "\\kern x", "\\end a"}
@@ -86,6 +88,7 @@ func balancedCmds(cs []impl.Cmd) bool {
 }
 
 func TestCommandsAreBalanced(t *testing.T) {
+	t.Parallel()
 	r := rand.New(rand.NewSource(24))
 	e := digestEnv()
 	parts := []string{"{", "{", "}", "}", "}", "\\begingroup ", "\\endgroup ", "\\hbox{", "\\vbox to 1pt{", "\\note 1{", "\\table 2{", "a", "\\opened", "\\let\\y}", "\\y", "\\end ", "\\global\\let\\z={", "\\z", "$", "\\relax"}
@@ -120,6 +123,7 @@ func TestCommandsAreBalanced(t *testing.T) {
 
 // A group leaves all as it was, unless something is set globally in it: then it leaves just that.
 func TestAGroupOfATextLeavesWhatWasSetGlobally(t *testing.T) {
+	t.Parallel()
 	r := rand.New(rand.NewSource(25))
 	e := digestEnv()
 	globals := []struct {
@@ -190,6 +194,7 @@ func TestDigestAnswersAreNewMemoryAndArgumentsStay(t *testing.T) {
 
 // Any bytes, in any categories, with names and registers at random.
 func TestDigestAtEveryArgument(t *testing.T) {
+	t.Parallel()
 	r := rand.New(rand.NewSource(27))
 	for range 2000 {
 		e := digestEnv()

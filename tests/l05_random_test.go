@@ -51,6 +51,7 @@ func randomJob(r *rand.Rand, most int) string {
 }
 
 func TestDigestAtRandom(t *testing.T) {
+	t.Parallel()
 	r := rand.New(rand.NewSource(21))
 	e := digestEnv()
 	var codes [200]int
@@ -76,6 +77,7 @@ func TestDigestAtRandom(t *testing.T) {
 
 // Pieces alone: most of such texts end early, at every place at which a text may.
 func TestDigestOfPiecesAtRandom(t *testing.T) {
+	t.Parallel()
 	r := rand.New(rand.NewSource(22))
 	e := digestEnv()
 	for range 12000 {

@@ -87,6 +87,7 @@ func checkNatural(t *testing.T, ns nodes, down bool) {
 }
 
 func TestBoxesAtRandom(t *testing.T) {
+	t.Parallel()
 	r := rand.New(rand.NewSource(95))
 	counts := map[string]int{}
 	for range 20000 {

@@ -365,6 +365,7 @@ func spoilNode(r *rand.Rand, n *impl.Node) {
 }
 
 func TestListOkAtRandom(t *testing.T) {
+	t.Parallel()
 	r := rand.New(rand.NewSource(92))
 	can := 0
 	for range 20000 {

@@ -207,6 +207,7 @@ func spoilStyle(r *rand.Rand, s *impl.Style) {
 }
 
 func TestParasOfAnyNumbers(t *testing.T) {
+	t.Parallel()
 	r := rand.New(rand.NewSource(106))
 	can := 0
 	for range 6000 {

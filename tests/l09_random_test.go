@@ -45,6 +45,7 @@ func countPara(counts map[string]int, got impl.Broken, ways []tried) {
 
 // No legal way, gone through one by one, is better than the one that is told.
 func TestParasAtRandom(t *testing.T) {
+	t.Parallel()
 	r := rand.New(rand.NewSource(101))
 	counts := map[string]int{}
 	for range 4000 {
@@ -66,6 +67,7 @@ func TestParasAtRandom(t *testing.T) {
 
 // All lines between all breaks, and sequences of them.
 func TestLinesAndDemeritsAtRandom(t *testing.T) {
+	t.Parallel()
 	r := rand.New(rand.NewSource(102))
 	for range 1500 {
 		l := randomRows(r)

@@ -103,6 +103,7 @@ func checkCheapest(t *testing.T, ns nodes, s impl.Sheet, p impl.Page) {
 
 // A long text as one would set it: its pages are filled.
 func TestABookOfPages(t *testing.T) {
+	t.Parallel()
 	r := rand.New(rand.NewSource(113))
 	var ns nodes
 	for range 1100 {
@@ -193,6 +194,7 @@ func spoilSheet(r *rand.Rand, s *impl.Sheet) {
 }
 
 func TestPagesOfAnyNumbers(t *testing.T) {
+	t.Parallel()
 	r := rand.New(rand.NewSource(115))
 	can := 0
 	for range 8000 {

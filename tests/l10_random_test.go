@@ -46,6 +46,7 @@ func countPages(counts map[string]int, ns nodes, s impl.Sheet, got []impl.Page) 
 
 // Pages are those of the plain telling, which goes through all breaks by the document's words.
 func TestPagesAtRandom(t *testing.T) {
+	t.Parallel()
 	r := rand.New(rand.NewSource(111))
 	counts := map[string]int{}
 	for range 6000 {
@@ -64,6 +65,7 @@ func TestPagesAtRandom(t *testing.T) {
 
 // All pages from all places, to all breaks and to what is none.
 func TestPagesFromEverywhere(t *testing.T) {
+	t.Parallel()
 	r := rand.New(rand.NewSource(112))
 	for range 600 {
 		l := randomStacks(r)

@@ -296,6 +296,7 @@ func spoilAtom(r *rand.Rand, a *impl.Atom) {
 }
 
 func TestFormulasAtRandom(t *testing.T) {
+	t.Parallel()
 	r := formulas{rand.New(rand.NewSource(121))}
 	can, cannot := 0, 0
 	for range 8000 {

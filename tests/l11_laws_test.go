@@ -22,6 +22,7 @@ func alone(as atoms) []atoms {
 
 // A row is its atoms as they are alone, and the gaps of the classes they count as.
 func TestRowsAreAtomsAndGaps(t *testing.T) {
+	t.Parallel()
 	r := formulas{rand.New(rand.NewSource(126))}
 	for range 1000 {
 		as, style, font := r.row(7, 3), r.Int63n(4), r.Int63n(16)
@@ -79,6 +80,7 @@ func TestSmallRowsHaveNoGapsInBrackets(t *testing.T) {
 
 // A text in braces is a group of one atom, which is as large as the text is alone.
 func TestTextsInBraces(t *testing.T) {
+	t.Parallel()
 	r := formulas{rand.New(rand.NewSource(127))}
 	for range 1000 {
 		s := r.text(5, 2)

@@ -203,6 +203,7 @@ func (r formulas) withBlanks(s string) string {
 }
 
 func TestTextsAtRandom(t *testing.T) {
+	t.Parallel()
 	r := formulas{rand.New(rand.NewSource(125))}
 	can, cannot := 0, 0
 	for range 10000 {

@@ -196,6 +196,7 @@ func scriptTree(n int) atoms {
 }
 
 func TestMathTooTall(t *testing.T) {
+	t.Parallel()
 	low, high := 1000, 2000 // low fits, high does not
 	for low+1 < high {
 		mid := (low + high) / 2
@@ -251,6 +252,7 @@ func TestLargeFormulas(t *testing.T) {
 }
 
 func TestMathAtRandom(t *testing.T) {
+	t.Parallel()
 	r := formulas{rand.New(rand.NewSource(123))}
 	counts := map[int64]int{}
 	for range 1500 {
@@ -269,6 +271,7 @@ func TestMathAtRandom(t *testing.T) {
 
 // Formulas that may be too deep to be set.
 func TestDeepMathAtRandom(t *testing.T) {
+	t.Parallel()
 	r := formulas{rand.New(rand.NewSource(124))}
 	around := []func(atoms) atoms{
 		inGroupAtom, inRootAtom, inUpOf, inDownOf,
