@@ -168,13 +168,62 @@ func TestDisplays(t *testing.T) {
 			want: listed(glueNode(gap), x, glueNode(gap), glueNode(gap), sized(x[0].Depth+4*u), lastLine(chars("p", 2)), glueNode(gap), sized(2*u+x[0].Height), x, glueNode(gap), sized(x[0].Depth+6*u), packedRow(chars("b", 2)))},
 		buildCase{what: "wider than a line", cmds: then(inDisplay(typed(strings.Repeat("x", 100), 2)...), plain), want: shown(displayBox(strings.Repeat("x", 100), 2))},
 	)
-	// In a row it is as if it were no display.
+}
+
+// A row has no displays: two CmdMaths beside each other are an empty formula there, and the second one ends it.
+func TestDisplaysInRows(t *testing.T) {
+	math, x, ff := cmds(mathCmd), typed("x", 2), mathPlainly{0, 2}.char(1)
+	empty := then(math, math)
+	one, two, three := slices.Repeat([]string{badFormula}, 1), slices.Repeat([]string{badFormula}, 2), slices.Repeat([]string{badFormula}, 3)
+	open := []string{badFormula, openFormula}
+	for _, c := range []struct {
+		what  string
+		cmds  []impl.Cmd
+		row   nodes
+		notes []string
+	}{
+		{"$$", empty, nil, one},
+		{"$$x", then(empty, x), chars("x", 2), one},
+		{"$$x$", then(empty, x, math), chars("x", 2), append(open, badFormula)},
+		{"$$x$x", then(empty, x, math, x), chars("xx", 2), open},
+		{"$$x$$", inDisplay(x...), chars("x", 2), two},
+		{"$$x$$$x$", then(inDisplay(x...), inMath(x...)), chars("xx", 2), two},
+		{"$$x$x$", then(empty, x, inMath(x...)), chars("xx", 2), one},
+		{"$$$", then(empty, math), nil, append(open, badFormula)},
+		{"$$$x$", then(empty, inMath(x...)), chars("x", 2), one},
+		{"$$$$", then(empty, empty), nil, two},
+		{"$$$$x", then(empty, empty, x), chars("x", 2), two},
+		{"$$$$$$", slices.Repeat(empty, 3), nil, three},
+		{"$x$$x$", then(inMath(x...), inMath(x...)), chars("xx", 2), nil},
+		{"$x$$$x$", then(inMath(x...), math, inMath(x...)), chars("xx", 2), append(slices.Clone(one), openFormula, badFormula)},
+		{"$x$$$$x$", then(inMath(x...), empty, inMath(x...)), chars("xx", 2), one},
+		{"$$ff$$, a word", inDisplay(typed("ff", 2)...), ff, two},
+		{"$ff$, a formula", inMath(typed("ff", 2)...), chars("ff", 2), nil},
+		{"f$$f, two words", then(typed("f", 2), empty, typed("f", 2)), chars("ff", 2), one},
+		{"$$x^x$$, without a script", inDisplay(mathCmds("x^x", 2)...), chars("xx", 2), two},
+		{"$$a/b$$, without a fraction", inDisplay(mathCmds("a/b", 2)...), chars("ab", 2), two},
+		{"$$\\{xy}$$, without a root", inDisplay(mathCmds(`\{xy}`, 2)...), chars("xy", 2), two},
+		{"letters of two fonts", inDisplay(then(typed("x", 3), typed("y", 5))...), listed(chars("x", 3), chars("y", 5)), two},
+		{"what formulas leave out", inDisplay(then(x, cmds(kernCmd(5)), inHbox(x...))...), listed(chars("x", 2), kernNode(5), packedRow(chars("x", 2))), two},
+		{"a CmdLeft between the two", inMath(then(cmds(cmd(impl.CmdLeft)), math)...), nil, append(slices.Clone(one), openFormula, badFormula)},
+	} {
+		padded := then(typed("a", 3), c.cmds)
+		row := listed(chars("a", 3), c.row)
+		checkBuilds(t,
+			buildCase{what: c.what + " in a box", cmds: inHbox(padded...), want: packedRow(row), notes: c.notes},
+			buildCase{what: c.what + " in a box in a paragraph", cmds: then(typed("b", 2), inHbox(padded...), cmds(plainPar())), want: lastLine(chars("b", 2), packedRow(row)), notes: c.notes},
+			buildCase{what: c.what + " in a cell", cmds: inTable(1, padded...), want: builtTable(1, cellsRow(cellOf(1, 0, row))), notes: c.notes},
+			buildCase{what: c.what + " in a box that is open", cmds: then(cmds(cmdNums(impl.CmdHbox, 0, 0)), padded), want: packedRow(row), notes: c.notes},
+		)
+	}
+	shown := listed(noGap(), displayBox("x", 2), noGap())
+	stack := packedPlainly(shown, true, 0, 0, impl.MaxLen).Nodes
 	checkBuilds(t,
-		buildCase{what: "in a row", cmds: inHbox(then(typed("a", 2), inDisplay(mathCmds("a/b", 2)...), typed("b", 2))...), want: packedRow(chars("a", 2), mathRow("a/b", impl.Text, 2), chars("b", 2))},
-		buildCase{what: "in a cell", cmds: inTable(1, inDisplay(mathCmds("a/b", 2)...)...), want: builtTable(1, cellsRow(cellOf(1, 0, mathRow("a/b", impl.Text, 2))))},
-		buildCase{what: "in a row in a paragraph", cmds: then(typed("a", 2), inHbox(inDisplay(typed("x", 2)...)...), plain), want: lastLine(chars("a", 2), packedRow(chars("x", 2)))},
-		buildCase{what: "in a row, ended by one", cmds: inHbox(then(math, math, typed("x", 2), math, typed("b", 2))...), want: packedRow(chars("xb", 2))},
-		buildCase{what: "empty in a row", cmds: inHbox(then(math, math, math, math, typed("b", 2))...), want: packedRow(chars("b", 2)), notes: []string{badFormula}},
+		buildCase{what: "in a stack in a row", cmds: then(inHbox(inVbox(inDisplay(x...)...)...), cmds(plainPar())), want: packedRow(stack)},
+		buildCase{what: "in a row in a stack in a row", cmds: inHbox(inVbox(inHbox(inDisplay(x...)...)...)...), want: packedRow(vboxNode(6*65530, 4*65530, 0, 0, packedRow(chars("x", 2)))), notes: two},
+		buildCase{what: "ahead of a tab", cmds: inTable(2, then(empty, cmds(tabCmd), empty, x)...), want: builtTable(2, textCells("", "x")), notes: two},
+		buildCase{what: "over a tab", cmds: inTable(2, then(math, cmds(tabCmd), math, x)...), want: builtTable(2, textCells("x")), notes: one},
+		buildCase{what: "alone in a row of a table", cmds: inTable(1, then(x, cmds(rowCmd), empty)...), want: builtTable(1, textCells("x")), notes: one},
 	)
 }
 
@@ -214,7 +263,7 @@ func TestOpenFormulas(t *testing.T) {
 		buildCase{what: "an empty display at the end of all", cmds: then(plain, math, math), notes: both},
 		buildCase{what: "a display behind a paragraph", cmds: then(plain, typed("a", 2), math, math, x), want: listed(lastLine(chars("a", 2)), shown), notes: open},
 		buildCase{what: "a display at the end of a box", cmds: then(inVbox(then(math, math, x)...), plain), want: packedPlainly(shown, true, 0, 0, impl.MaxLen).Nodes, notes: open},
-		buildCase{what: "a display in a row", cmds: then(inHbox(then(math, math, x)...), plain), want: packedRow(chars("x", 2)), notes: open},
+		buildCase{what: "behind an empty one in a row", cmds: then(inHbox(then(math, math, math, x)...), plain), want: packedRow(chars("x", 2)), notes: []string{badFormula, openFormula}},
 		buildCase{what: "a display at a stray end", cmds: then(math, math, x, end, plain), want: shown, notes: []string{openFormula, "stray end"}},
 		buildCase{what: "a display behind a bad paragraph", cmds: then(cmds(cmd(impl.CmdIndent)), slices.Repeat(cmds(cmdText(impl.CmdMark, "")), impl.MaxRow+1), math, math, plain), notes: []string{"bad paragraph", openFormula, badFormula}},
 	)

@@ -252,33 +252,23 @@ func (b *building) formulaText(at int) (text string, font int64, end int) {
 	return text, font, at
 }
 
-// behindMath is where the commands of the formula begin whose CmdMath is here.
-func (b *building) behindMath(at int) int {
-	if b.kindAt(at+1) == impl.CmdMath {
-		return at + 2
-	}
-	return at + 1
-}
-
-// behindFormula is where the commands go on behind the formula that began and ended there.
-func (b *building) behindFormula(at, end int) int {
-	if b.kindAt(end) != impl.CmdMath {
-		return end
-	}
-	if b.kindAt(at+1) == impl.CmdMath && b.kindAt(end+1) == impl.CmdMath {
-		return end + 2
-	}
-	return end + 1
-}
-
-// formula is the row of the formula that comes next.
-func (b *building) formula(style int64) nodes {
-	at := b.at
+// formula is the row of the formula that comes next. Only a display has a second CmdMath at its beginning, and perhaps one at its end.
+func (b *building) formula(display bool) nodes {
 	b.take()
-	text, font, end := b.formulaText(b.behindMath(at))
-	b.at = b.behindFormula(at, end)
-	if b.kindAt(end) != impl.CmdMath {
+	style := int64(impl.Text)
+	if display {
+		b.take()
+		style = impl.Display
+	}
+	text, font, end := b.formulaText(b.at)
+	b.at = end
+	if b.next() != impl.CmdMath {
 		b.tell("open formula")
+	} else {
+		b.at++
+		if display && b.next() == impl.CmdMath {
+			b.at++
+		}
 	}
 	as, ok := impl.ReadMath(text)
 	if !ok {
@@ -349,7 +339,7 @@ func (b *building) inRow(inPara bool) nodes {
 	case impl.CmdHskip:
 		return glueNode(b.take().Glue)
 	case impl.CmdMath:
-		row := b.formula(impl.Text)
+		row := b.formula(false)
 		if len(row) == 0 {
 			b.tell("bad formula")
 		}
@@ -479,7 +469,7 @@ func (b *building) endPara(s *stackSoFar) {
 
 func (b *building) display(s *stackSoFar) {
 	set := b.settings()
-	row := b.formula(impl.Display)
+	row := b.formula(true)
 	inner := impl.HPack(row, 0, 0).Nodes
 	fil := glueNode(impl.Glue{Plus: 65536, PlusOrder: 1})
 	outer := impl.HPack(listed(fil, inner, fil), 1, set.style.Width).Nodes
