@@ -128,20 +128,6 @@ func TestAllShortBytes(t *testing.T) {
 	}
 }
 
-// checkChanged: bytes with one of them changed are none.
-func checkChanged(t *testing.T, whole []byte, at int, to byte) {
-	t.Helper()
-	before := whole[at]
-	if to == before {
-		return
-	}
-	whole[at] = to
-	if d, ok := impl.DecodeDesc(whole); ok || len(d) > 0 {
-		t.Fatalf("%d bytes, of which number %d is %d, not %d: read as %v", len(whole), at, to, before, shortDesc(d))
-	}
-	whole[at] = before
-}
-
 func TestOneChangedByteIsTold(t *testing.T) {
 	t.Parallel()
 	r := rand.New(rand.NewSource(186))
@@ -153,7 +139,7 @@ func TestOneChangedByteIsTold(t *testing.T) {
 		whole := slices.Clone(impl.EncodeDesc(d))
 		for at := range whole {
 			for to := range 256 {
-				checkChanged(t, whole, at, byte(to))
+				descKind().checkChanged(t, whole, at, byte(to))
 			}
 		}
 		if got, ok := impl.DecodeDesc(whole); !ok || !same(got, d) {
@@ -183,16 +169,7 @@ func TestOneChangedByteOfManyIsTold(t *testing.T) {
 	t.Parallel()
 	r := rand.New(rand.NewSource(187))
 	for _, length := range []int{255, 256, 257, 300, 1000, 32768, 60000, 65519, 65520} {
-		whole := checkDesc(t, descOfLength(t, length))
-		for at := range 20 {
-			checkChanged(t, whole, at, byte(r.Intn(256)))
-			checkChanged(t, whole, length-1-at, byte(r.Intn(256)))
-		}
-		for range 500 {
-			at := r.Intn(length)
-			checkChanged(t, whole, at, whole[at]^1<<r.Intn(8))
-			checkChanged(t, whole, at, byte(r.Intn(256)))
-		}
+		descKind().checkSomeChanged(t, r, checkDesc(t, descOfLength(t, length)), 500)
 	}
 }
 

@@ -63,45 +63,18 @@ func TestNoBytes(t *testing.T) {
 
 func TestBytesCutShort(t *testing.T) {
 	for _, d := range []desc{nil, {{}}, {{}, {}}, readable(), pagesOfSpots(3, 200)} {
-		whole := checkDesc(t, d)
-		for n := range whole {
-			checkNoDesc(t, "cut short", whole[:n])
-			checkNoDesc(t, "without a beginning", whole[n+1:])
-		}
-		for n := range len(whole) - 2 {
-			checkNoDesc(t, "cut short, with a sum of its own", sealPlainly(whole[:n]))
-		}
+		descKind().checkCutShort(t, checkDesc(t, d))
 	}
 }
 
 func TestBytesBehind(t *testing.T) {
 	for _, d := range []desc{nil, {{}}, readable(), pagesOfSpots(3, 200)} {
-		whole := checkDesc(t, d)
-		body := whole[:len(whole)-2]
-		for c := range 256 {
-			checkNoDesc(t, "a byte behind", append(slices.Clone(whole), byte(c)))
-			checkNoDesc(t, "a byte behind, ahead of the sum", sealPlainly(append(slices.Clone(body), byte(c))))
-		}
-		checkNoDesc(t, "a second sum", sealPlainly(whole))
-		checkNoDesc(t, "twice", append(slices.Clone(whole), whole...))
-		checkNoDesc(t, "many bytes behind", marked(bodyOf(whole), make([]byte, 100000)))
+		descKind().checkBytesBehind(t, checkDesc(t, d))
 	}
 }
 
 func TestAnotherBeginning(t *testing.T) {
-	whole := checkDesc(t, readable())
-	body := whole[:len(whole)-2]
-	for at := range len(markOf) {
-		for c := range 256 {
-			if other := slices.Clone(body); byte(c) != other[at] {
-				other[at] = byte(c)
-				checkNoDesc(t, "another beginning", sealPlainly(other))
-			}
-		}
-	}
-	for _, mark := range []string{"", "Q", "QPD", "QPD11", "QPD2", "QFM1", "qpd1", "1DPQ", " QPD1", "\x00QPD1"} {
-		checkNoDesc(t, mark, sealPlainly(append([]byte(mark), bodyOf(whole)...)))
-	}
+	descKind().checkOtherBeginnings(t, checkDesc(t, readable()), "QFM1", "qpd1", "1DPQ")
 }
 
 func TestNumbersInMoreGroupsThanTheyNeed(t *testing.T) {
@@ -272,33 +245,16 @@ func TestFontsToldAnew(t *testing.T) {
 
 func TestSumsThatAreNotTheirs(t *testing.T) {
 	for _, d := range []desc{nil, {{}, {}}, readable()} {
-		whole := checkDesc(t, d)
-		body, sum := whole[:len(whole)-2], whole[len(whole)-2:]
-		for n := range 65536 {
-			other := append(slices.Clone(body), byte(n), byte(n>>8))
-			if _, ok := impl.DecodeDesc(other); ok != bytes.Equal(other[len(body):], sum) {
-				t.Fatalf("a sum of %d: %v", n, ok)
-			}
-		}
-		checkNoDesc(t, "the higher one first", append(slices.Clone(body), sum[1], sum[0]))
-		checkNoDesc(t, "no sum", body)
-		checkNoDesc(t, "a byte of the sum", whole[:len(whole)-1])
+		descKind().checkOtherSums(t, checkDesc(t, d))
 	}
 }
 
-// Two numbers of two bytes may be the same modulo 65521: only the lesser one is a sum.
 func TestSumsBeyondTheModulus(t *testing.T) {
 	seen := 0
 	for size := range int64(100000) {
 		whole := impl.EncodeDesc(append(readable(), spots{{X: 7 * size, Y: -9 * size, Width: 10007 * size, Height: 10007 * (100000 - size)}}))
-		body := whole[:len(whole)-2]
-		if sum := int(sumPlainly(body)); sum+65521 < 65536 {
+		if descKind().checkSumBeyond(t, whole) {
 			seen++
-			if _, ok := checkBytes(t, whole); !ok {
-				t.Fatalf("a sum of %d is refused", sum)
-			}
-			sum += 65521
-			checkNoDesc(t, "a sum beyond the modulus", append(slices.Clone(body), byte(sum), byte(sum>>8)))
 		}
 	}
 	if seen == 0 {
