@@ -208,6 +208,8 @@ func takeDecimal(s string) (digits int64, scale int64, rest string, ok bool) {
 	return digits, scale, s[at:], count > 0
 }
 
+func decimal(n int64) string { return strconv.FormatInt(n, 10) }
+
 func ShowLen(x int64) string {
 	if !fits(x) {
 		return ""
@@ -229,9 +231,9 @@ func showDecimal(x int64) string {
 	if number < 0 {
 		sign, number = "-", -number
 	}
-	part := strconv.FormatInt(number%scale, 10)
+	part := decimal(number % scale)
 	zeros := strings.Repeat("0", places-len(part))
-	return sign + strconv.FormatInt(number/scale, 10) + "." + zeros + part
+	return sign + decimal(number/scale) + "." + zeros + part
 }
 
 // lowerNearest is x / y to the nearest, of two the lesser; y is even and above 0.
